@@ -1,0 +1,1 @@
+"""Alikeplay: a game engine that runs alike everywhere."""

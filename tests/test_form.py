@@ -1,0 +1,137 @@
+"""The form of the package: its interface as the document lists it, and rules of the language that can be seen."""
+
+import ast
+import builtins
+import doctest
+import pathlib
+import unittest
+
+ROOT = pathlib.Path(__file__).resolve().parent.parent
+PACKAGE = ROOT / "alikeplay"
+LIBRARY = {"math": {"gcd", "isqrt"}}
+BUILTINS = set(dir(builtins))
+ALLOWED_BUILTINS = {
+    "len", "range", "enumerate", "zip", "min", "max", "sum", "abs", "sorted", "reversed", "int", "str", "bool", "list",
+    "tuple", "dict", "set", "isinstance", "ord", "repr", "any", "all", "divmod", "ValueError", "KeyError",
+}
+BARRED_NODES = (
+    ast.Global, ast.AsyncFunctionDef, ast.Await, ast.Div, ast.AsyncFor, ast.AsyncWith, ast.Import, ast.Try,
+)
+
+# The functions of each file with their parameters; a class has the parameters of its `__init__`.
+INTERFACE = {
+    "errors": {"PlayError": None, "BadValue": "name", "BadScript": "line column words", "BadGame": "where why",
+               "TooLarge": "what"},
+    "whole": {"is_whole": "value", "is_between": "value low high", "floor_root": "n", "quotient": "n d",
+              "rest": "n d", "cut": "n d", "wrapped": "n", "is_fraction": "value", "fraction": "n d",
+              "fraction_sum": "a b", "fraction_less": "a b"},
+    "dice": {"is_dice": "value", "dice_of": "seed", "drawn": "dice", "leapt": "dice n", "rolled": "dice n",
+             "shuffled": "dice items", "picked": "dice weights"},
+    "boxes": {"is_box": "value", "overlap": "first second", "common": "first second", "united": "first second",
+              "shifted": "box dx dy", "has_point": "box x y"},
+}
+
+
+def files():
+    return sorted(PACKAGE.rglob("*.py"))
+
+
+def trees():
+    return [(path, ast.parse(path.read_text(encoding="utf-8"))) for path in files()]
+
+
+def functions(tree):
+    return [node for node in ast.walk(tree) if isinstance(node, ast.FunctionDef)]
+
+
+class InterfaceTests(unittest.TestCase):
+    def test_names_and_parameters(self):
+        for module, names in INTERFACE.items():
+            tree = ast.parse((PACKAGE / f"{module}.py").read_text(encoding="utf-8"))
+            found = {node.name: self.parameters(node) for node in tree.body
+                     if isinstance(node, (ast.FunctionDef, ast.ClassDef))}
+            for name, parameters in names.items():
+                with self.subTest(module=module, name=name):
+                    self.assertIn(name, found)
+                    self.assertEqual(found[name], parameters)
+
+    def parameters(self, node):
+        if isinstance(node, ast.ClassDef):
+            own = [part for part in node.body if isinstance(part, ast.FunctionDef) and part.name == "__init__"]
+            return " ".join(part.arg for part in own[0].args.args[1:]) if own else None
+        return " ".join(part.arg for part in node.args.args)
+
+
+class ReadmeTests(unittest.TestCase):
+    def test_examples(self):
+        text = (ROOT / "README.md").read_text(encoding="utf-8").replace("```", "")
+        examples = doctest.DocTestParser().get_doctest(text, {}, "README", "README.md", 0)
+        found = doctest.DocTestRunner().run(examples)
+        self.assertGreater(found.attempted, 0)
+        self.assertEqual(found.failed, 0)
+
+
+class FormTests(unittest.TestCase):
+    def test_only_python_files(self):
+        for path in PACKAGE.rglob("*"):
+            if "__pycache__" not in path.parts and path.is_file():
+                self.assertEqual(path.suffix, ".py", path)
+        self.assertTrue((PACKAGE / "__init__.py").is_file())
+
+    def test_characters_and_sizes(self):
+        for path in files():
+            text = path.read_text(encoding="utf-8")
+            self.assertTrue(all(sign == "\n" or " " <= sign <= "~" for sign in text), path)
+            lines = text.splitlines()
+            self.assertLessEqual(len(lines), 399, path)
+            self.assertLessEqual(max(map(len, lines)), 120, path)
+
+    def test_functions_are_small(self):
+        for path, tree in trees():
+            for node in functions(tree):
+                self.assertLessEqual(node.end_lineno - node.lineno + 1, 40, (path, node.name))
+                self.assertEqual(node.decorator_list, [], (path, node.name))
+
+    def test_imports(self):
+        modules = {f"alikeplay.{path.stem}" for path in files()}
+        for path, tree in trees():
+            for node in ast.walk(tree):
+                if isinstance(node, ast.ImportFrom):
+                    self.assertEqual(node.level, 0, path)
+                    self.assertTrue(all(name.asname is None for name in node.names), path)
+                    names = {name.name for name in node.names}
+                    self.assertTrue(node.module in modules or names <= LIBRARY.get(node.module, set()), path)
+
+    def test_no_barred_statements_and_values(self):
+        for path, tree in trees():
+            for node in ast.walk(tree):
+                self.assertNotIsInstance(node, BARRED_NODES, (path, getattr(node, "lineno", 0)))
+                if isinstance(node, ast.Constant):
+                    self.assertNotIsInstance(node.value, (float, complex, bytes), (path, node.lineno))
+                    self.assertFalse(isinstance(node.value, str) and "%" in node.value, (path, node.lineno))
+
+    def test_names(self):
+        for path, tree in trees():
+            for node in ast.walk(tree):
+                if isinstance(node, ast.Name) and isinstance(node.ctx, ast.Load) and node.id in BUILTINS:
+                    self.assertIn(node.id, ALLOWED_BUILTINS, (path, node.lineno))
+                if isinstance(node, ast.Name) and isinstance(node.ctx, ast.Store):
+                    self.assertNotIn(node.id, BUILTINS, (path, node.lineno))
+                if isinstance(node, ast.arg):
+                    self.assertNotIn(node.arg, BUILTINS, (path, node.lineno))
+            for node in functions(tree):
+                self.assertTrue(node.name == "__init__" or node.name not in BUILTINS, (path, node.name))
+
+    def test_no_local_name_hides_an_import(self):
+        for path, tree in trees():
+            imported = {name.name for node in tree.body if isinstance(node, ast.ImportFrom) for name in node.names}
+            classes = {node.name for node in tree.body if isinstance(node, ast.ClassDef)}
+            for node in functions(tree):
+                local = {part.id for part in ast.walk(node)
+                         if isinstance(part, ast.Name) and isinstance(part.ctx, ast.Store)}
+                local |= {part.arg for part in ast.walk(node) if isinstance(part, ast.arg)}
+                self.assertEqual(local & (imported | classes), set(), (path, node.name))
+
+
+if __name__ == "__main__":
+    unittest.main()
