@@ -1,6 +1,7 @@
 """Points 12 to 18: draws, leaps, rolls, shuffles and picks."""
 
 import unittest
+from unittest import mock
 
 from alikeplay.dice import dice_of, drawn, is_dice, leapt, picked, rolled, shuffled
 from helpers import NO_INTEGERS, NO_TUPLES, Cases, check_arguments, check_pure
@@ -124,6 +125,23 @@ class RollTests(unittest.TestCase):
     def test_errors(self):
         wrong = (0, -1, 65537, 2 ** 40, *NO_INTEGERS)
         check_arguments(self, rolled, (1, 6), (("dice", NO_DICE), ("n", wrong)))
+
+
+class LastDrawTests(unittest.TestCase):
+    """No dice are known from which eight draws are above a limit, so the draws are put in here."""
+
+    def roll(self, draws):
+        with mock.patch("alikeplay.dice._next_dice", side_effect=draws):
+            return rolled(1, 65536)
+
+    def test_the_eighth_draw_counts_whatever_it_is(self):
+        above = [LAST - index for index in range(9)]
+        self.assertEqual(self.roll(above), ((above[7] - 1) % 65536, above[7]))
+
+    def test_the_first_draw_that_is_not_above_counts(self):
+        for many in range(8):
+            draws = [LAST] * many + [5, 6, 7]
+            self.assertEqual(self.roll(draws), (4, 5))
 
 
 class ShuffleTests(unittest.TestCase):

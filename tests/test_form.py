@@ -29,6 +29,13 @@ INTERFACE = {
              "shuffled": "dice items", "picked": "dice weights"},
     "boxes": {"is_box": "value", "overlap": "first second", "common": "first second", "united": "first second",
               "shifted": "box dx dy", "has_point": "box x y"},
+    "bodies": {"is_body": "value", "box_of": "body", "flown": "body n"},
+    "spaces": {"is_space": "value", "tick": "space bounce", "momenta_behind": "space bounce contacts",
+               "momentum": "space", "energy": "space", "pushed": "space name jx jy"},
+    "grids": {"is_grid": "value", "sign_at": "grid column row", "cells_met": "grid box", "is_free": "grid box",
+              "with_sign": "grid column row sign", "mirrored_grid": "grid", "wall_boxes": "grid"},
+    "movers": {"moved": "grid box dx dy through", "stands": "grid box", "held": "grid boxes",
+               "cast": "grid start end"},
 }
 
 
