@@ -22,7 +22,8 @@ def test_files():
 
 def run_file(path):
     environment = dict(os.environ)
-    environment["PYTHONPATH"] = os.pathsep.join((str(path.parent), str(ROOT)))
+    places = [path.parent, *(folder for folder in FOLDERS if folder in path.parents), ROOT]
+    environment["PYTHONPATH"] = os.pathsep.join(map(str, places))
     environment["PYTHONDONTWRITEBYTECODE"] = "1"
     command = [sys.executable, "-m", "unittest", path.stem]
     done = subprocess.run(command, cwd=ROOT, env=environment, text=True, errors="replace",
