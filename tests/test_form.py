@@ -36,6 +36,13 @@ INTERFACE = {
               "with_sign": "grid column row sign", "mirrored_grid": "grid", "wall_boxes": "grid"},
     "movers": {"moved": "grid box dx dy through", "stands": "grid box", "held": "grid boxes",
                "cast": "grid start end"},
+    "scanning": {"scan": "text"},
+    "checking": {"next_tokens": "text", "read_script": "text commands", "is_tree": "value commands"},
+    "writing": {"script_text": "tree"},
+    "coding": {"coded": "tree", "is_code": "value commands", "commands_of_code": "code", "heights": "code",
+               "short": "code"},
+    "machines": {"begun": "code", "run": "code machine budget", "answered": "machine answer",
+                 "is_machine": "code value"},
 }
 
 
