@@ -3,7 +3,7 @@
 from alikeplay.checks import is_tuple, require
 from alikeplay.codes import is_some_code
 from alikeplay.machineforms import MachineCheck
-from alikeplay.running import ASKING, READY, behind_answer, gone_on
+from alikeplay.running import ASKING, begin, behind_answer, gone_on
 from alikeplay.whole import is_between, is_whole
 
 GREATEST_BUDGET = 100000
@@ -12,12 +12,7 @@ GREATEST_BUDGET = 100000
 def begun(code):
     """Return the machine that begins."""
     require(is_some_code(code), "code")
-    return first_machine(code)
-
-
-def first_machine(code):
-    """Return the machine with which a sound code begins."""
-    return (0,) * code[0], ((0, 0, (), ()),), READY, None
+    return begin(code)
 
 
 def run(code, machine, budget):

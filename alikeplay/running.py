@@ -15,6 +15,11 @@ VALUES = ("int", "get", "load", "put", "store", "drop")
 JUMPS = ("jump", "unless", "and", "or")
 
 
+def begin(code):
+    """Return the machine with which a sound code begins."""
+    return (0,) * code[0], ((0, 0, (), ()),), READY, None
+
+
 def gone_on(code, machine, budget):
     """Let a machine of the code go on; return the machine and the event that stops it."""
     mode = machine[2]

@@ -47,7 +47,7 @@ def check_arguments(test, function, arguments, wrong):
                 with test.assertRaises(BadValue) as caught:
                     function(*given)
                 test.assertEqual(caught.exception.name, name)
-                test.assertEqual(given, before)
+                test.assertEqual(shown(given), shown(before))
 
 
 def check_pure(test, function, *arguments):
@@ -58,8 +58,17 @@ def check_pure(test, function, *arguments):
     spoil(first)
     second = function(*arguments)
     test.assertEqual(second, kept)
-    test.assertEqual(arguments, before)
+    test.assertEqual(shown(arguments), shown(before))
     return second
+
+
+def shown(value):
+    """Return the value with what its objects have in place of them, to compare copies."""
+    if isinstance(value, (list, tuple)):
+        return [type(value), *map(shown, value)]
+    if hasattr(value, "__dict__") and not isinstance(value, type) and not callable(value):
+        return [type(value), *[(name, shown(part)) for name, part in sorted(vars(value).items())]]
+    return value
 
 
 def spoil(value):

@@ -43,6 +43,17 @@ INTERFACE = {
                "short": "code"},
     "machines": {"begun": "code", "run": "code machine budget", "answered": "machine answer",
                  "is_machine": "code value"},
+    "games": {"Game": "grid kinds things", "first_state": "game seed", "is_state": "game value",
+              "box_of": "game thing", "step": "game state inputs"},
+    "digests": {"data_text": "data", "digest": "data"},
+    "records": {"run": "game seed story", "packed_story": "story", "unpacked_story": "packed",
+                "record_of": "game seed story", "first_difference": "game record", "save_text": "game state",
+                "read_save": "game text"},
+    "rewinds": {"Rewind": "game seed"},
+}
+# The methods that stand in the body of a class, with their parameters.
+METHODS = {
+    ("rewinds", "Rewind"): {"state": "", "story": "", "step": "inputs", "back": "count", "state_at": "tick"},
 }
 
 
@@ -69,11 +80,22 @@ class InterfaceTests(unittest.TestCase):
                     self.assertIn(name, found)
                     self.assertEqual(found[name], parameters)
 
+    def test_methods(self):
+        for (module, name), methods in METHODS.items():
+            tree = ast.parse((PACKAGE / f"{module}.py").read_text(encoding="utf-8"))
+            (found,) = [node for node in tree.body if isinstance(node, ast.ClassDef) and node.name == name]
+            own = {part.name: self.names(part)[1:] for part in found.body if isinstance(part, ast.FunctionDef)}
+            for method, parameters in methods.items():
+                self.assertEqual(own.get(method), parameters.split(), (module, name, method))
+
     def parameters(self, node):
         if isinstance(node, ast.ClassDef):
             own = [part for part in node.body if isinstance(part, ast.FunctionDef) and part.name == "__init__"]
-            return " ".join(part.arg for part in own[0].args.args[1:]) if own else None
-        return " ".join(part.arg for part in node.args.args)
+            return " ".join(self.names(own[0])[1:]) if own else None
+        return " ".join(self.names(node))
+
+    def names(self, node):
+        return [part.arg for part in node.args.args + node.args.kwonlyargs]
 
 
 class ReadmeTests(unittest.TestCase):
