@@ -4,6 +4,7 @@ from alikeplay.boxes import boxes_overlap
 from alikeplay.dice import rolled
 from alikeplay.movers import stands
 from alikeplay.places import is_allowed, is_mover
+from alikeplay.running import flag
 from alikeplay.whole import is_between, wrapped
 
 # The commands, with the numbers of their arguments.
@@ -25,10 +26,6 @@ def answer_to(world, me, command, arguments):
     return action(world, me, arguments)
 
 
-def _flag(holds):
-    return 1 if holds else 0
-
-
 def _me(world, me, arguments):
     return me.number
 
@@ -48,7 +45,7 @@ def _y(world, me, arguments):
 
 
 def _lives(world, me, arguments):
-    return _flag(world.thing(arguments[0]) is not None)
+    return flag(world.thing(arguments[0]) is not None)
 
 
 def _kind(world, me, arguments):
@@ -69,7 +66,7 @@ def _touches(world, me, arguments):
     first, second = world.thing(arguments[0]), world.thing(arguments[1])
     if first is None or second is None:
         return 0
-    return _flag(boxes_overlap(world.box_of(first), world.box_of(second)))
+    return flag(boxes_overlap(world.box_of(first), world.box_of(second)))
 
 
 def _key(world, me, arguments):
@@ -87,7 +84,7 @@ def _roll(world, me, arguments):
 
 
 def _stands(world, me, arguments):
-    return _flag(is_mover(world.kind_of(me)) and stands(world.grid, world.box_of(me)))
+    return flag(is_mover(world.kind_of(me)) and stands(world.grid, world.box_of(me)))
 
 
 def _hit(world, me, arguments):

@@ -26,7 +26,7 @@ def coded(tree):
 
 def _routine(block, variables, slots, functions, behind):
     coder = Coder(variables, slots, functions)
-    coder.lay_block(block)
+    coder.add_block(block)
     return tuple(coder.instructions + behind)
 
 
@@ -39,10 +39,10 @@ class Coder:
         self.slots = slots
         self.functions = functions
 
-    def lay_block(self, block):
+    def add_block(self, block):
         """Add the code of the statements."""
         for statement in block:
-            self._lay_statement(statement)
+            self._add_statement(statement)
 
     def _add(self, *instruction):
         """Add an instruction, and return its place."""
@@ -53,13 +53,13 @@ class Coder:
         """Let the instruction at the place name the next place to come."""
         self.instructions[place] = self.instructions[place][0], len(self.instructions)
 
-    def _lay_statement(self, statement):
+    def _add_statement(self, statement):
         word = statement[0]
         begin = len(self.instructions)
         if word == "wait":
             self._add("wait")
             return
-        self._lay(statement[-1] if word == "set" else statement[1])
+        self._add_expression(statement[-1] if word == "set" else statement[1])
         if word == "set":
             self._add_named("store", "put", statement[1])
         elif word == "do":
@@ -67,18 +67,18 @@ class Coder:
         elif word == "return":
             self._add("return")
         else:
-            self._lay_branch(statement, begin)
+            self._add_branch(statement, begin)
 
-    def _lay_branch(self, statement, begin):
+    def _add_branch(self, statement, begin):
         """Add what stands behind the condition of an `if` or a `while`, whose code begins there."""
         condition = self._add("unless", begin)
-        self.lay_block(statement[2])
+        self.add_block(statement[2])
         if statement[0] == "while":
             self._add("jump", begin)
         elif statement[3]:
             end = self._add("jump", begin)
             self._lead_here(condition)
-            self.lay_block(statement[3])
+            self.add_block(statement[3])
             self._lead_here(end)
             return
         self._lead_here(condition)
@@ -89,30 +89,30 @@ class Coder:
         else:
             self._add(word_of_variable, self.variables.index(name))
 
-    def _lay(self, expression):
+    def _add_expression(self, expression):
         """Add the code of an expression."""
         if LEVELS[expression[0]] == ATOM:
-            self._lay_atom(expression)
+            self._add_atom(expression)
             return
         row = row_of(expression)
-        self._lay(row[-1][1])
+        self._add_expression(row[-1][1])
         for operation in row[::-1]:
-            self._lay_operation(operation)
+            self._add_operation(operation)
 
-    def _lay_operation(self, operation):
+    def _add_operation(self, operation):
         """Add the code of an operation behind that of its first operand."""
         word = operation[0]
         if word == "and" or word == "or":
             place = self._add(word, 0)
-            self._lay(operation[2])
+            self._add_expression(operation[2])
             self._add("truth")
             self._lead_here(place)
         else:
             for operand in operation[2:]:
-                self._lay(operand)
+                self._add_expression(operand)
             self._add(word)
 
-    def _lay_atom(self, expression):
+    def _add_atom(self, expression):
         word = expression[0]
         if word == "int":
             self._add(word, expression[1])
@@ -121,7 +121,7 @@ class Coder:
         else:
             _, name, arguments = expression
             for argument in arguments:
-                self._lay(argument)
+                self._add_expression(argument)
             if word == "ask":
                 self._add(word, name, len(arguments))
             else:

@@ -176,10 +176,11 @@ def _jump(frame, word, place):
 def _changed(word, b):
     if word == "neg":
         return wrapped(-b)
-    return _flag((b == 0) == (word == "not"))
+    return flag((b == 0) == (word == "not"))
 
 
-def _flag(holds):
+def flag(holds):
+    """Return what a script gets for yes or no."""
     return 1 if holds else 0
 
 
@@ -195,7 +196,7 @@ def _result(word, a, b):
         return wrapped(a // b)
     if word == "mod":
         return a % b
-    return _flag(_holds(word, a, b))
+    return flag(_holds(word, a, b))
 
 
 def _holds(word, a, b):
