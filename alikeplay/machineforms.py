@@ -23,7 +23,7 @@ class MachineCheck:
         if not is_tuple(value, 4):
             return False
         variables, frames, mode, pending = value
-        if not are_values(variables, self.count) or not isinstance(frames, tuple) or not isinstance(mode, str):
+        if not are_values(variables, self.count) or not isinstance(frames, tuple):
             return False
         if mode in (DONE, DIVISION, DEEP):
             return frames == () and pending is None

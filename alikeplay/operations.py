@@ -29,13 +29,6 @@ def level_of(value):
     return LEVELS.get(value[0], None)
 
 
-def least_levels(level):
-    """Return the least levels of the first and of a second operand that stand without parentheses."""
-    if level == COMPARISON:
-        return level + 1, level + 1
-    return level, level + 1
-
-
 def depth(expression, level):
     """Return how many operations of the level the expression is, each the first operand of the one around it."""
     found = 0
@@ -48,7 +41,9 @@ def depth(expression, level):
 def row_of(expression):
     """Return the list of the operations of one level that begins with the expression, an operation.
 
-    Each is the first operand of the one before it. Rows are gone through by loops, so that calls do not stand deep.
+    Each is the first operand of the one before it. An operand of a row stands without parentheses if its level is
+    greater; no row goes on with operations of its own level, and a comparison is a row alone. Rows are gone through by
+    loops, so that calls do not stand deep.
     """
     level = LEVELS[expression[0]]
     many = 1 if level == COMPARISON else depth(expression, level)

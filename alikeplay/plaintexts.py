@@ -62,22 +62,17 @@ def data_of(text):
             row = tuple(rows.pop())
             rows[-1].append(row)
         elif piece != ",":
-            found = _single_data(piece)
-            if not found:
-                return []
-            rows[-1].extend(found)
-    if len(rows) > 1 or len(rows[0]) != 1:
-        return []
-    # There is one text only: commas that stand elsewhere, or zeros ahead of a number, make another one.
-    return rows[0] if text_of(rows[0][0]) == text else []
+            rows[-1].extend(_single_data(piece))
+    # Data have one text only, so whatever else is wrong with this one, commas at other places too, is found here.
+    return rows[0] if [text_of(data) for data in rows[0]] == [text] else []
 
 
 def _piece_at(text, at):
     """Return the number, the string in its quotes or the single character that begins at this index."""
     end = at + 1
     if text[at] == '"':
-        end = text.find('"', at + 1) + 1
-        return text[at:end] if end > 0 else text[at:]
+        length = text[end:].find('"') + 1
+        return text[at:end + length] if length > 0 else text[at:]
     if text[at] == "-" or text[at] in DIGITS:
         while end < len(text) and text[end] in DIGITS:
             end += 1
@@ -91,7 +86,7 @@ def _single_data(piece):
     if piece == "t" or piece == "f":
         return [piece == "t"]
     if piece[0] == '"':
-        return [piece[1:-1]] if len(piece) > 1 and piece[-1] == '"' else []
+        return [piece[1:-1]]
     digits = piece[1:] if piece[0] == "-" else piece
     if digits == "" or digits[0] not in DIGITS:
         return []

@@ -88,7 +88,6 @@ class Reader:
         return self._pass()
 
     def _function(self, name):
-        self.slots = []
         self._pass()
         while not self._passes(")"):
             self._passes(",")

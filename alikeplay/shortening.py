@@ -13,7 +13,7 @@ def shortened(instructions):
     aimed = [_aimed(instruction, instructions) for instruction in instructions]
     needed = _reached(aimed)
     for place in range(len(aimed) - 1, -1, -1):
-        if needed[place] and _leads_to_next(place, aimed, needed):
+        if _leads_to_next(place, aimed, needed):
             needed[place] = False
     return _gathered(aimed, needed)
 

@@ -2,7 +2,7 @@
 
 from alikeplay.checks import is_tuple
 from alikeplay.commands import Commands, is_script_name
-from alikeplay.operations import ATOM, MOST_OPERATIONS, OR, least_levels, level_of, row_of
+from alikeplay.operations import ATOM, MOST_OPERATIONS, OR, level_of, row_of
 from alikeplay.scanning import DEEPEST, GREATEST_NUMBER
 from alikeplay.whole import is_between
 
@@ -39,11 +39,10 @@ class TreeCheck:
         if not is_tuple(value, 3) or not are_names(value[0], MOST_VARIABLES):
             return False
         self.variables, functions, body = value
-        if not self._take_heads(functions) or not all(self._is_function(function) for function in functions):
+        if not self._take_heads(functions) or not self._is_block(body, 0):
             return False
-        self.slots = ()
-        self.is_inside = False
-        return self._is_block(body, 0)
+        self.is_inside = True
+        return all(self._is_function(function) for function in functions)
 
     def _take_heads(self, value):
         """Learn the functions and how many parameters they have; tell whether they can stand together."""
@@ -63,7 +62,6 @@ class TreeCheck:
         if not isinstance(variables, tuple) or not are_names(parameters + variables, MOST_SLOTS):
             return False
         self.slots = parameters + variables
-        self.is_inside = True
         return self._is_block(body, 1)
 
     def _is_block(self, value, opened):
@@ -71,7 +69,7 @@ class TreeCheck:
         return isinstance(value, tuple) and all(self._is_statement(statement, opened) for statement in value)
 
     def _is_statement(self, value, opened):
-        if not isinstance(value, tuple) or len(value) == 0 or not isinstance(value[0], str):
+        if not isinstance(value, tuple) or len(value) == 0:
             return False
         word = value[0]
         if word == "set":
@@ -91,7 +89,7 @@ class TreeCheck:
         return all(self._is_block(block, opened + 1) for block in value[2:])
 
     def _is_known(self, name):
-        return isinstance(name, str) and (name in self.slots or name in self.variables)
+        return name in self.slots or name in self.variables
 
     def _is_expression(self, value, least, opened):
         """Tell whether the value is an expression that can stand where so many parentheses and braces are open.
@@ -113,11 +111,10 @@ class TreeCheck:
         row = row_of(value)
         if len(row) > MOST_OPERATIONS:
             return False
-        first, second = least_levels(level)
         for operation in row:
-            if not all(self._is_expression(operand, second, opened) for operand in operation[2:]):
+            if not all(self._is_expression(operand, level + 1, opened) for operand in operation[2:]):
                 return False
-        return self._is_expression(row[-1][1], first, opened)
+        return self._is_expression(row[-1][1], level + 1, opened)
 
     def _is_atom(self, value, opened):
         word = value[0]

@@ -1,7 +1,7 @@
 """The texts of trees."""
 
 from alikeplay.checks import require
-from alikeplay.operations import ATOM, LEVELS, OR, SIGNS_OF, UNARY, least_levels, row_of
+from alikeplay.operations import ATOM, LEVELS, OR, SIGNS_OF, UNARY, row_of
 from alikeplay.trees import is_some_tree
 
 INDENT = "  "
@@ -65,13 +65,12 @@ def _text(expression, least):
 
 def _operation_text(expression, level):
     row = row_of(expression)
-    first, second = least_levels(level)
-    text = _text(row[-1][1], first)
+    text = _text(row[-1][1], level + 1)
     for operation in row[::-1]:
         if level == UNARY:
             text = PREFIXES[operation[0]] + text
         else:
-            text = text + " " + SIGNS_OF[operation[0]] + " " + _text(operation[2], second)
+            text = text + " " + SIGNS_OF[operation[0]] + " " + _text(operation[2], level + 1)
     return text
 
 

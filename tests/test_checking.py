@@ -437,6 +437,33 @@ class TreeTests(unittest.TestCase):
                 inner = (("if", A, (), inner),)
             self.assertIs(is_tree(body(*inner), COMMANDS), holds)
 
+    def test_operands_where_ten_are_open(self):
+        """In ten open braces, operands that need parentheses can not stand, others can."""
+        words = (*BINARY, "neg", "not")
+        for outer in words:
+            for inner in words:
+                operand = (inner, A) if inner in ("neg", "not") else (inner, A, A)
+                for tree in [(outer, operand)] if outer in ("neg", "not") else [(outer, operand, A), (outer, A, operand)]:
+                    block = (("do", tree),)
+                    for _ in range(10):
+                        block = (("while", A, block),)
+                    self.assertIs(is_tree(body(*block), []), "(" not in expression_text(tree), tree)
+
+    def test_statements_of_another_length(self):
+        for statement, holds in (
+            (("if", A, (), ()), True), (("if", A, ()), False), (("if", A), False), (("if", A, (), (), ()), False),
+            (("while", A, ()), True), (("while", A), False), (("while", A, (), ()), False), (("while", (), A), False),
+            (("wait",), True), (("wait", ()), False), (("wait", A), False), (("do", A), True), (("do",), False),
+            (("do", A, A), False), (("set", "a", A), True), (("set", "a"), False), (("set", "a", A, A), False),
+            (("set", A, A), False), (("pass",), False), (("if",), False), ((), False), ((["do"], A), False),
+        ):
+            self.assertIs(is_tree(body(statement), []), holds, statement)
+            self.assertIs(is_tree((("a",), (("f", (), (), (statement,)),), ()), []), holds, statement)
+        for statement, holds in ((("return", A), True), (("return",), False), (("return", A, A), False)):
+            self.assertIs(is_tree((("a",), (("f", (), (), (statement,)),), ()), []), holds, statement)
+            self.assertIs(is_tree((("a",), (("f", (), (), ()),), (statement,)), []), False, statement)
+            self.assertIs(is_tree((("a",), (("f", (), (), (("wait",),)), ("g", (), (), ())), (statement,)), []), False)
+
     def test_deep_values_that_are_no_trees(self):
         for word in ("plus", "eq", "not", "or"):
             self.assertIs(is_tree(value_tree(rows(word, 50000)), []), False)

@@ -37,6 +37,9 @@ def wrong_codes():
              (0, ((False, 0, rows),)), (1, CODE[1][:1]), (0, CODE[1]), of_body(*[END] * 1001)]
     for heads in ((0, 1), (3, 2), (5, 5), (0, 9), (-1, 2), (True, 2), (0, True), (None, 2), (2,)):
         found.append((1, ((0, 0, MAIN), (*heads, INNER))))
+        if heads != (0, 1):
+            found.append((1, ((0, 0, (END,)), (*heads, (("int", 0), ("return",))))))
+    found += [(count, ((0, 0, (END,)),)) for count in (-1, 13, *NO_INTEGERS)]
     for row in (
         (), "end", ["end"], None, ("int",), ("int", 1, 1), ("int", LAST + 1), ("int", -LAST - 2), ("int", True),
         ("int", None), ("get", 1), ("get", -1), ("get", False), ("put", 1), ("load", 0), ("store", 0), ("jump", -1),

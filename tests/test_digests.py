@@ -5,6 +5,7 @@ import unittest
 
 from alikeplay.digests import data_text, digest
 from alikeplay.games import first_state, step
+from alikeplay.plaintexts import data_of
 from helpers import Cases, check_arguments, check_pure
 from worlds import some_game, some_inputs
 
@@ -59,6 +60,25 @@ class TextTests(unittest.TestCase):
             data = some_data(cases, 4)
             self.assertEqual(check_pure(self, data_text, data), slow_text(data))
             self.assertEqual(digest(data), slow_digest(slow_text(data)))
+
+    def test_data_of_texts(self):
+        """A text is read as the data that have it, and no other text is read."""
+        cases = Cases(84)
+        read = 0
+        for _ in range(1500):
+            data = some_data(cases, 3)
+            text = data_text(data)
+            self.assertEqual(repr(data_of(text)), repr([data]))
+            at = cases.whole(0, len(text))
+            changed = text[:at] + cases.one(("", "0", "-", ",", "(", ")", '"', "t", "n", "x", "1", " "))
+            changed += text[at + cases.whole(0, 1):]
+            found = data_of(changed)
+            self.assertEqual([data_text(some) for some in found], [changed] if found else [])
+            read += len(found)
+        self.assertGreater(read, 300)
+        for text in ("", "x", '"', '"a', '"""', "-", "-0", "00", "01", "--1", "1-1", ",", "(,)", "(1,)", "(,1)", "(1,,2)", "(1 ,2)",
+                     "(", ")", ")(", "())", "(()", "1,2", "nn", "tf", "n,", "(n", "n)", "\u0661", "+1", "1.0", "T", "N", "[]"):
+            self.assertEqual(data_of(text), [], text)
 
     def test_one_data_has_one_text(self):
         cases = Cases(82)

@@ -172,6 +172,12 @@ class StateTests(unittest.TestCase):
         game, state = self.game_and_state()
         self.assertIs(is_state(game, state), True)
         self.assertIs(is_state(game, (0, 1, (0, 0, 0, 0), 1, 2147483647, ())), True)
+        for coming in (0, -1):
+            self.assertIs(is_state(game, (0, 1, (0, 0, 0, 0), coming, 0, ())), False)
+        thing = (1, 0, 0, 0, 0, 0, (0, 0), None)
+        for kind, holds in ((0, True), (-1, False), (1, False)):
+            state = (0, 1, (0, 0, 0, 0), 2, 0, (replaced(thing, (1,), kind),))
+            self.assertIs(is_state(game_of((None, None)), state), holds)
         forty = tuple((k, 0, 0, 0, 0, 0, (0, 0), None) for k in range(1, 41))
         self.assertIs(is_state(game, (0, 1, (0, 0, 0, 0), 41, 0, forty)), True)
         self.assertIs(is_state(game, (0, 1, (0, 0, 0, 0), 42, 0, forty + ((41, *forty[0][1:]),))), False)

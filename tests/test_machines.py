@@ -296,6 +296,10 @@ class IsMachineTests(unittest.TestCase):
         ):
             self.assertIs(is_machine(CODE, ((0,), frames, mode, pending)), holds, (frames, mode, pending))
 
+    def test_indexes_below_zero(self):
+        for code, frame in ((CODE, (0, -1, (), ())), (of_body(END), (-1, 0, (), ())), (of_body(END), (0, -1, (), ()))):
+            self.assertIs(is_machine(code, ((0,), (frame,), "ready", None)), False)
+
     def test_places_that_are_not_reached(self):
         rows = (("jump", 4), ("ask", "x", 0), ("drop",), ("jump", 5), ("wait",), END)
         code = of_body(*rows, count=0)
@@ -333,7 +337,9 @@ class ErrorTests(unittest.TestCase):
         frame = ((0, 2, (), ()),)
         no_askers = [*NO_TUPLES, (), machine, [*asking], (*asking, None), asking[:3], ((), (), "asking", ("x", (4,))),
                      ((), frame, "ready", None), ((), frame, None, None), ((), frame, ["asking"], None),
-                     ((), (), "done", None), ((), list(frame), "asking", ("x", (4,))), ((), (5,), "asking", ("x", (4,)))]
+                     ((), (), "done", None), ((), list(frame), "asking", ("x", (4,))), ((), (5,), "asking", ("x", (4,))),
+                     ((), (*frame, 5), "asking", ("x", (4,))), ((), ((0, 2, (), None),), "asking", ("x", (4,))),
+                     ((), ((0, 2, ()),), "asking", ("x", (4,)))]
         check_arguments(self, answered, (asking, 4), (("machine", no_askers), ("answer", NO_INTEGERS)))
 
     def test_nothing_is_changed(self):

@@ -69,6 +69,14 @@ class ScanTests(unittest.TestCase):
             ("reserved", "var", 1, 1), ("name", "n", 1, 5), ("sign", ";", 1, 6), ("name", "n", 1, 8),
             ("sign", "=", 1, 9), ("number", "12", 1, 10), ("end", "", 1, 18)])
 
+    def test_letters_and_digits(self):
+        for letter in "abcdefghijklmnopqrstuvwxyz":
+            self.assertEqual(self.kinds(f"{letter} 1{letter}"), [("name", letter), ("number", "1"), ("name", letter)])
+            self.assertEqual(len(self.kinds(f"{letter} ".join("{" * 10))), 19)
+            self.assertEqual(self.kinds(f"({letter} " * 5 + "(" * 5)[-1], ("sign", "("))
+        for digit in "0123456789":
+            self.assertEqual(self.kinds(f"{digit} x{digit}"), [("number", digit), ("name", f"x{digit}")])
+
     def test_reserved_words_and_signs(self):
         for word in RESERVED:
             self.assertEqual(scan(word), [("reserved", word, 1, 1), ("end", "", 1, len(word) + 1)])
