@@ -14,7 +14,7 @@ def text_of(data):
     ahead = [(None, data)]
     while ahead:
         text, value = ahead.pop()
-        if text is None and isinstance(value, tuple):
+        if isinstance(value, tuple):
             text = "("
             ahead.append((")", None))
             for index in range(len(value) - 1, -1, -1):
@@ -61,18 +61,17 @@ def data_of(text):
         elif piece == ")" and len(rows) > 1:
             row = tuple(rows.pop())
             rows[-1].append(row)
-        elif piece != ",":
+        else:
             rows[-1].extend(_single_data(piece))
-    # Data have one text only, so whatever else is wrong with this one, commas at other places too, is found here.
+    # Data have one text only, so whatever is wrong with this one, from its commas to its quotes, is found here.
     return rows[0] if [text_of(data) for data in rows[0]] == [text] else []
 
 
 def _piece_at(text, at):
-    """Return the number, the string in its quotes or the single character that begins at this index."""
+    """Return the number, the string in its quotes, or else the character that begins at this index."""
     end = at + 1
     if text[at] == '"':
-        length = text[end:].find('"') + 1
-        return text[at:end + length] if length > 0 else text[at:]
+        end = max(end, text.find('"', end) + 1)
     if text[at] == "-" or text[at] in DIGITS:
         while end < len(text) and text[end] in DIGITS:
             end += 1

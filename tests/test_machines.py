@@ -248,6 +248,30 @@ class WholeRunTests(unittest.TestCase):
                 self.assertIs(is_machine(code, machine), True)
 
 
+    def test_running_machines_of_a_code_never_fails(self):
+        """Machines that were changed and are still of the code go on, and stay of the code."""
+        cases = Cases(68)
+        counts = [0, 0]
+        for tree in some_trees(40, 69):
+            code = coded(tree)
+            machines = states(code, 60)
+            for _ in range(25):
+                machine = cases.one(machines)
+                for _ in range(cases.whole(1, 3)):
+                    path = cases.one(list(parts(machine)))
+                    other = cases.one(machines)
+                    machine = replaced(machine, path, cases.one(
+                        (cases.whole(-3, 9), LEAST, part_at(other, cases.one(list(parts(other)))))))
+                holds = is_machine(code, machine)
+                counts[holds] += 1
+                for _ in range(30 if holds else 0):
+                    machine, event = run(code, machine, cases.whole(1, 40))
+                    self.assertIs(is_machine(code, machine), True)
+                    if event[0] == "asks":
+                        machine = answered(machine, cases.whole(-5, 5))
+        self.assertGreater(min(counts), 100)
+
+
 class IsMachineTests(unittest.TestCase):
     def machines(self):
         """Return CODE's machines at all kinds of places, with the mode each has."""
