@@ -90,12 +90,28 @@ def meets_sign(grid, box, signs):
 def with_sign(grid, column, row, sign):
     """Return the grid with this sign at the cell."""
     require(is_grid(grid), "grid")
+    require_cell(grid, column, row)
+    require(sign in SIGNS, "sign")
     columns, rows, cells = grid
-    require(is_between(column, 0, columns - 1), "column")
-    require(is_between(row, 0, rows - 1), "row")
-    require(isinstance(sign, str) and sign in SIGNS, "sign")
     index = row * columns + column
     return columns, rows, cells[:index] + sign + cells[index + 1:]
+
+
+def require_cell(grid, column, row):
+    """Raise BadValue if the column or the row is not that of a cell of the grid."""
+    require(is_between(column, 0, grid[0] - 1), "column")
+    require(is_between(row, 0, grid[1] - 1), "row")
+
+
+def has_cell(grid, column, row):
+    """Tell whether the grid has the cell."""
+    return is_between(column, 0, grid[0] - 1) and is_between(row, 0, grid[1] - 1)
+
+
+def cells_beside(grid, column, row):
+    """Return the list of the cells of the grid to the right of the cell, below, to the left and above."""
+    beside = [(column + 1, row), (column, row + 1), (column - 1, row), (column, row - 1)]
+    return [(at, line) for at, line in beside if has_cell(grid, at, line)]
 
 
 def mirrored_grid(grid):

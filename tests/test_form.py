@@ -50,10 +50,17 @@ INTERFACE = {
                 "record_of": "game seed story", "first_difference": "game record", "save_text": "game state",
                 "read_save": "game text"},
     "rewinds": {"Rewind": "game seed"},
+    "sharing": {"Session": "game seed players me"},
+    "levels": {"is_level": "value", "entries_of": "level", "changes_between": "first second",
+               "with_changes": "level changes", "reversed_changes": "changes", "merged": "base mine theirs"},
+    "edits": {"made": "level edit", "flooded": "grid column row"},
+    "leveltexts": {"level_text": "level", "read_level": "text"},
 }
 # The methods that stand in the body of a class, with their parameters.
 METHODS = {
     ("rewinds", "Rewind"): {"state": "", "story": "", "step": "inputs", "back": "count", "state_at": "tick"},
+    ("sharing", "Session"): {"clock": "", "confirmed": "", "replayed": "", "advance": "keys", "hear": "player tick keys",
+                             "waiting": "", "keys_at": "tick", "state": "", "digest_at": "tick"},
 }
 
 
