@@ -5,7 +5,8 @@ inverse, or None if the edit cannot be made.
 """
 
 from alikeplay.checks import is_tuple
-from alikeplay.grids import LONGEST_GRID, SIGNS, cell_sign, cells_beside, has_cell, is_grid
+from alikeplay.floods import by_rows, flood
+from alikeplay.grids import LONGEST_GRID, SIGNS, cell_sign, has_cell, is_grid
 from alikeplay.whole import is_between
 
 
@@ -46,30 +47,12 @@ def _set_flood(level, edit):
     return _painted(level, {cell: sign for cell in flood(level[0], column, row)})
 
 
-def flood(grid, column, row):
-    """Return the list of the cells that are reached over cells with the sign of this one, row by row."""
-    sign = cell_sign(grid, column, row)
-    reached = {(column, row): True}
-    ahead = [(column, row)]
-    while ahead:
-        at, line = ahead.pop()
-        for cell in cells_beside(grid, at, line):
-            if cell not in reached and cell_sign(grid, cell[0], cell[1]) == sign:
-                reached[cell] = True
-                ahead.append(cell)
-    return sorted(reached, key=_by_rows)
-
-
-def _by_rows(cell):
-    return cell[1], cell[0]
-
-
 def _painted(level, signs):
     """Give each of some cells, a dict, its sign."""
     (columns, rows, cells), things, notes = level
     painted = list(cells)
     old = []
-    for column, row in sorted(signs, key=_by_rows):
+    for column, row in sorted(signs, key=by_rows):
         painted[row * columns + column] = signs[(column, row)]
         old.append((column, row, cells[row * columns + column]))
     return ((columns, rows, "".join(painted)), things, notes), ("cells", tuple(old))

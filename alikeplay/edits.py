@@ -1,7 +1,8 @@
 """Edits of levels, each of which can be taken back."""
 
-from alikeplay.celledits import cell_outcome, flood
+from alikeplay.celledits import cell_outcome
 from alikeplay.checks import is_tuple, require
+from alikeplay.floods import flood
 from alikeplay.grids import is_grid, require_cell
 from alikeplay.levels import is_level
 from alikeplay.thingedits import thing_outcome

@@ -108,12 +108,6 @@ def has_cell(grid, column, row):
     return is_between(column, 0, grid[0] - 1) and is_between(row, 0, grid[1] - 1)
 
 
-def cells_beside(grid, column, row):
-    """Return the list of the cells of the grid to the right of the cell, below, to the left and above."""
-    beside = [(column + 1, row), (column, row + 1), (column - 1, row), (column, row - 1)]
-    return [(at, line) for at, line in beside if has_cell(grid, at, line)]
-
-
 def mirrored_grid(grid):
     """Return the grid with each of its rows reversed."""
     require(is_grid(grid), "grid")

@@ -4,8 +4,9 @@ from alikeplay.checks import require
 from alikeplay.digests import digest
 from alikeplay.games import Game, state_of
 from alikeplay.plaintexts import data_of, text_of
+from alikeplay.runs import runs_of, values_of
 from alikeplay.states import is_seed, is_state_of
-from alikeplay.stories import is_packed, is_record, is_story, mark_ticks, pack, unpack
+from alikeplay.stories import is_packed, is_record, is_story, mark_ticks
 from alikeplay.worlds import stepped
 
 
@@ -39,19 +40,19 @@ def _marks(game, seed, story):
 def packed_story(story):
     """Return the packed story."""
     require(is_story(story), "story")
-    return pack(story)
+    return runs_of(story)
 
 
 def unpacked_story(packed):
     """Return the story of a packed one."""
     require(is_packed(packed), "packed")
-    return unpack(packed)
+    return values_of(packed)
 
 
 def record_of(game, seed, story):
     """Return the record of a run."""
     _check_run(game, seed, story)
-    return seed, pack(story), _marks(game, seed, story)
+    return seed, runs_of(story), _marks(game, seed, story)
 
 
 def first_difference(game, record):
@@ -59,7 +60,7 @@ def first_difference(game, record):
     require(isinstance(game, Game), "game")
     require(is_record(record), "record")
     seed, parts, marks = record
-    for mark, true_mark in zip(marks, _marks(game, seed, unpack(parts))):
+    for mark, true_mark in zip(marks, _marks(game, seed, values_of(parts))):
         if mark != true_mark:
             return mark[0]
     return None

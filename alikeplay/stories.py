@@ -1,6 +1,7 @@
 """Stories of keys, packed ones, and the form of records."""
 
 from alikeplay.checks import is_tuple
+from alikeplay.runs import are_runs, length_of
 from alikeplay.states import is_row, is_seed
 from alikeplay.whole import is_whole
 
@@ -15,34 +16,7 @@ def is_story(value):
 
 def is_packed(value):
     """Tell whether the value is a packed story."""
-    if not isinstance(value, tuple) or not all(_is_part(part) for part in value):
-        return False
-    if any(part[1] == other[1] for part, other in zip(value, value[1:])):
-        return False
-    return sum([part[0] for part in value]) <= MOST_STEPS
-
-
-def _is_part(value):
-    return is_tuple(value, 2) and is_whole(value[0]) and value[0] >= 1 and is_row(value[1])
-
-
-def pack(story):
-    """Return the packed story."""
-    parts = []
-    for row in story:
-        if parts and parts[-1][1] == row:
-            parts[-1] = parts[-1][0] + 1, row
-        else:
-            parts.append((1, row))
-    return tuple(parts)
-
-
-def unpack(parts):
-    """Return the story of a packed one."""
-    story = []
-    for count, row in parts:
-        story.extend([row] * count)
-    return tuple(story)
+    return are_runs(value, is_row) and length_of(value) <= MOST_STEPS
 
 
 def mark_ticks(steps):
@@ -60,4 +34,4 @@ def is_record(value):
         return False
     if not all(is_tuple(mark, 2) and is_whole(mark[0]) and is_whole(mark[1]) for mark in marks):
         return False
-    return [tick for tick, _ in marks] == mark_ticks(len(unpack(parts)))
+    return [tick for tick, _ in marks] == mark_ticks(length_of(parts))

@@ -3,12 +3,13 @@
 import ast
 import builtins
 import doctest
+import importlib
 import pathlib
 import unittest
 
 ROOT = pathlib.Path(__file__).resolve().parent.parent
 PACKAGE = ROOT / "alikeplay"
-LIBRARY = {"math": {"gcd", "isqrt"}}
+LIBRARY = {"math": {"gcd", "isqrt"}, "heapq": {"heappop", "heappush"}}
 BUILTINS = set(dir(builtins))
 ALLOWED_BUILTINS = {
     "len", "range", "enumerate", "zip", "min", "max", "sum", "abs", "sorted", "reversed", "int", "str", "bool", "list",
@@ -55,12 +56,22 @@ INTERFACE = {
                "with_changes": "level changes", "reversed_changes": "changes", "merged": "base mine theirs"},
     "edits": {"made": "level edit", "flooded": "grid column row"},
     "leveltexts": {"level_text": "level", "read_level": "text"},
+    "editor": {"Editor": "level", "replay": "level journal"},
+    "paths": {"cost_of": "grid cells", "path_of": "grid start goal", "reached": "grid start budget", "regions": "grid",
+              "field_of": "grid goals", "is_field": "grid goals field", "steepest": "grid field start"},
+    "pictures": {"is_picture": "value", "filled": "width height colour", "cropped": "picture box",
+                 "mirrored": "picture", "flipped": "picture", "pasted": "picture x y sprite"},
+    "drawing": {"is_scene": "value", "in_order": "scene", "view": "scene window ground", "top_item": "scene x y",
+                "seen": "scene window", "changed_boxes": "old new", "redrawn": "view window ground scene boxes"},
+    "packing": {"packed": "picture", "unpacked": "packed", "difference": "first second", "patched": "picture patch"},
 }
 # The methods that stand in the body of a class, with their parameters.
 METHODS = {
     ("rewinds", "Rewind"): {"state": "", "story": "", "step": "inputs", "back": "count", "state_at": "tick"},
     ("sharing", "Session"): {"clock": "", "confirmed": "", "replayed": "", "advance": "keys", "hear": "player tick keys",
                              "waiting": "", "keys_at": "tick", "state": "", "digest_at": "tick"},
+    ("editor", "Editor"): {"level": "", "position": "", "steps": "", "depth": "", "make": "edit", "undo": "", "redo": "",
+                           "begin": "", "finish": "", "cancel": "", "journal": ""},
 }
 
 
@@ -94,6 +105,13 @@ class InterfaceTests(unittest.TestCase):
             own = {part.name: self.names(part)[1:] for part in found.body if isinstance(part, ast.FunctionDef)}
             for method, parameters in methods.items():
                 self.assertEqual(own.get(method), parameters.split(), (module, name, method))
+
+    def test_imports(self):
+        """Each name is imported from the file under which it is listed, and defined there."""
+        for module, names in INTERFACE.items():
+            found = importlib.import_module(f"alikeplay.{module}")
+            for name in names:
+                self.assertEqual(getattr(found, name).__module__, f"alikeplay.{module}", name)
 
     def parameters(self, node):
         if isinstance(node, ast.ClassDef):
