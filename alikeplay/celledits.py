@@ -1,12 +1,12 @@
 """Edits of the grid of a level.
 
-The functions of the table take a level and an edit of one kind, and return a pair of the level that comes and the
-inverse, or None if the edit cannot be made.
+The functions of the table take a level and an edit of one kind, and return a pair of what comes and the inverse, or
+None if the edit cannot be made. Whether what comes is a level is not asked here.
 """
 
 from alikeplay.checks import is_tuple
 from alikeplay.floods import by_rows, flood
-from alikeplay.grids import LONGEST_GRID, SIGNS, cell_sign, has_cell, is_grid
+from alikeplay.grids import LONGEST_GRID, SIGNS, cell_sign, has_cell
 from alikeplay.whole import is_between
 
 
@@ -76,7 +76,7 @@ def _set_size(level, edit):
 
 def _set_grid(level, edit):
     """Put another grid in place of the grid."""
-    return _with_grid(level, edit[1]) if is_tuple(edit, 2) and is_grid(edit[1]) else None
+    return _with_grid(level, edit[1]) if is_tuple(edit, 2) else None
 
 
 def _with_grid(level, grid):

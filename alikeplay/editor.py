@@ -12,10 +12,10 @@ CALLS = (("undo",), ("redo",), ("begin",), ("finish",))
 
 
 class Group:
-    """An open group: what was when it was begun, and the pairs of an edit and its inverse that were made since."""
+    """An open group: the level and the calls before it, and the pairs of an edit and its inverse that are in it."""
 
-    def __init__(self, level, calls):
-        self.level = level
+    def __init__(self, before, calls):
+        self.before = before
         self.calls = calls
         self.pairs = []
 
@@ -105,7 +105,7 @@ class Editor:
         if not self.groups:
             return None
         group = self.groups.pop()
-        self.now = group.level
+        self.now = group.before
         self.calls = group.calls
         return self.now
 
@@ -115,11 +115,12 @@ class Editor:
 
     def _check_room(self, edit):
         """Raise TooLarge if there is no room for a further edit."""
-        if not self.groups and self.at == MOST_STEPS:
+        # Behind the last step no group can be open, and without groups every edit is small enough.
+        if self.at == MOST_STEPS:
             raise TooLarge("steps")
-        if self.groups and len(self.groups) + groups_in(edit) > DEEPEST_GROUP:
+        if len(self.groups) + groups_in(edit) > DEEPEST_GROUP:
             raise TooLarge("groups")
-        if self.groups and self._open_edits() + edits_in(edit) > MOST_EDITS:
+        if self._open_edits() + edits_in(edit) > MOST_EDITS:
             raise TooLarge("edits")
 
     def _open_edits(self):

@@ -87,10 +87,10 @@ class Rest:
             thing = _thing_in(line.split(" "))
             if not is_thing(thing):
                 return "thing"
-            return "line" if self.notes else _lay(self.things, thing, MOST_THINGS)
+            return "line" if self.notes else _put_behind(self.things, thing, MOST_THINGS)
         if line.startswith("note "):
             note = tuple(line.split(" ", 2)[1:])
-            return _lay(self.notes, note, MOST_NOTES) if is_note(note) else "note"
+            return _put_behind(self.notes, note, MOST_NOTES) if is_note(note) else "note"
         return "line"
 
 
@@ -98,16 +98,16 @@ def _thing_in(pieces):
     """Return what the pieces of a line tell of a thing, with None in place of what is no number."""
     if len(pieces) < 5:
         return None
-    _, name, kind, x, y = pieces[:5]
+    name, kind, x, y = pieces[1:5]
     numbers = []
     for piece in pieces[5:]:
-        key, sign, number = piece.partition("=")
-        numbers.append((key, _number_in(number) if sign == "=" else None))
+        key, _, number = piece.partition("=")
+        numbers.append((key, _number_in(number)))
     return name, kind, _number_in(x), _number_in(y), tuple(numbers)
 
 
-def _lay(rows, row, most):
-    """Lay a row behind the others; return the words of its problem, or None."""
+def _put_behind(rows, row, most):
+    """Put a row behind the others; return the words of its problem, or None."""
     if rows and row[0] <= rows[-1][0]:
         return "order"
     if len(rows) == most:

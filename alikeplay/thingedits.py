@@ -1,12 +1,11 @@
 """Edits of the things and the notes of a level.
 
-The functions of the table take a level and an edit of one kind, and return a pair of the level that comes and the
-inverse, or None if the edit cannot be made. Whether there are too many things, numbers or notes then is not asked here.
+The functions of the table take a level and an edit of one kind, and return a pair of what comes and the inverse, or
+None if the edit cannot be made. Whether what comes is a level is not asked here.
 """
 
-from alikeplay.boxes import is_coordinate
 from alikeplay.checks import is_tuple
-from alikeplay.levelforms import is_note, is_number, is_thing, row_named, with_row, without_row
+from alikeplay.levelforms import is_note, is_thing, row_named, with_row, without_row
 from alikeplay.names import is_name
 
 
@@ -26,7 +25,7 @@ def _drop_thing(level, edit):
 def _place_thing(level, edit):
     """Give a thing other coordinates."""
     thing = _thing_of(level, edit, 4)
-    if thing is None or not is_coordinate(edit[2]) or not is_coordinate(edit[3]):
+    if thing is None:
         return None
     name, kind, x, y, numbers = thing
     return _with_thing(level, (name, kind, edit[2], edit[3], numbers)), ("place", name, x, y)
@@ -40,7 +39,7 @@ def _set_value(level, edit):
     name, kind, x, y, numbers = thing
     _, _, key, number = edit
     old = row_named(numbers, key)
-    if number is None and old is None or number is not None and not is_number(number):
+    if number is None and old is None:
         return None
     numbers = without_row(numbers, key) if number is None else with_row(numbers, (key, number))
     return _with_thing(level, (name, kind, x, y, numbers)), ("value", name, key, None if old is None else old[1])
@@ -58,7 +57,7 @@ def _name_thing(level, edit):
 
 def _set_note(level, edit):
     """Give a note its text, or take it away."""
-    if not is_tuple(edit, 3) or not is_name(edit[1]):
+    if not is_tuple(edit, 3):
         return None
     grid, things, notes = level
     _, key, text = edit

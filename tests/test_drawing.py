@@ -140,7 +140,8 @@ class ViewTests(unittest.TestCase):
         wrong = (("scene", NO_SCENES[::5] + NO_SCENES[:12]), ("window", NO_WINDOWS), ("ground", NO_COLOURS))
         check_arguments(self, view, (scene, (0, 0, 64, 64), 63), wrong)
         check_arguments(self, seen, (scene, (FAR - 64, -FAR, FAR, 64 - FAR)), wrong[:2])
-        check_arguments(self, top_item, (scene, FAR, -FAR), (wrong[0], ("x", NO_COORDINATES), ("y", NO_COORDINATES)))
+        for some in (scene, ()):
+            check_arguments(self, top_item, (some, FAR, -FAR), (wrong[0], ("x", NO_COORDINATES), ("y", NO_COORDINATES)))
 
 
 def some_change(cases, scene):

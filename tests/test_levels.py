@@ -17,7 +17,7 @@ GRID = LEVEL[0]
 HUGE = tuple((f"t{index:02}", "k", 0, 0, ()) for index in range(20))
 NO_KEYS = (
     *NO_TUPLES, (), ("size", 1), ("cell",), ("cell", 0), ("cell", 0, 0, 0), ("cells", 0, 0), ("Cell", 0, 0), ("cell", -1, 0),
-    ("cell", 0, -1), ("cell", True, 0), ("cell", 0, False), ("cell", 0.0, 0), ("cell", "0", 0), ("cell", [0], 0), ("thing",),
+    ("cell", 0, -1), ("cell", 40, 0), ("cell", 0, 40), ("cell", True, 0), ("cell", 0, False), ("cell", 0.0, 0), ("cell", "0", 0), ("cell", [0], 0), ("thing",),
     ("thing", "hero", "hp"), ("value", "hero"), ("value", "hero", "hp", "hp"), ("note",), ("note", "title", "title"), ["size"],
     ["cell", 0, 0], "size", (("size",),), (["size"],), (5,), (None, 1), ("name", "hero"),
     *[(word, name) for word in ("thing", "note") for name in NO_NAMES], *[("value", name, "hp") for name in NO_NAMES],
@@ -117,6 +117,19 @@ class EntryTests(unittest.TestCase):
         """Cells are ordered by rows and columns as numbers."""
         found = changes_between(((40, 12, "." * 480), (), ()), ((40, 12, "#" * 480), (), ()))
         self.assertEqual(found, [(("cell", column, row), ".", "#") for row in range(12) for column in range(40)])
+
+    def test_names_that_are_words(self):
+        """Names can be the words of keys."""
+        words = ("cell", "note", "size", "thing", "value")
+        level = (GRID, tuple((word, word, 0, 0, tuple((key, 1) for key in words)) for word in words), tuple((word, word) for word in words))
+        bare = (GRID, (), ())
+        expected = [(("thing", "cell"), None, ("cell", 0, 0)), *[(("value", "cell", word), None, 1) for word in words]]
+        changes = changes_between(bare, level)
+        self.assertEqual((changes[:6], changes[-5:]), (expected, [(("note", word), None, word) for word in words]))
+        self.assertEqual((with_changes(bare, changes), with_changes(level, reversed_changes(changes))), (level, bare))
+        self.assertEqual(merged(bare, level, bare), (level, []))
+        other = level[:2] + (tuple((word, "x") for word in words),)
+        self.assertEqual(merged(bare, level, other), (level[:2] + ((),), [(("note", word), None, word, "x") for word in words]))
 
     def test_changes_there_and_back(self):
         cases = Cases(113)
